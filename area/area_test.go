@@ -204,3 +204,31 @@ func TestP19_3Exactness(t *testing.T) {
 		t.Error("a box inside", f)
 	}
 }
+
+// TestCrowdedBoxes: boxes that are split because many edges meet in them, down to a unit.
+func TestCrowdedBoxes(t *testing.T) {
+	r := rand.New(rand.NewSource(4))
+	var fan [][]api.Point // many triangles around one point
+	for range 9 {
+		fan = append(fan, ring(5, 5, r.Intn(40)-20, r.Intn(40)-20, r.Intn(40)-20, r.Intn(40)-20))
+	}
+	for range 12 {
+		var l [][]api.Point
+		for range 12 {
+			l = append(l, polygon.ConvexHull([]api.Point{pt(r.Intn(20), r.Intn(20)), pt(r.Intn(20), r.Intn(20)), pt(r.Intn(20), r.Intn(20)), pt(r.Intn(20), r.Intn(20))}))
+		}
+		for _, polygons := range [][][]api.Point{l, fan} {
+			a := pt(r.Intn(10), r.Intn(10))
+			for _, b := range []api.Point{pt(a.X+1, a.Y+1), pt(a.X+3, a.Y+1), pt(a.X+1, a.Y+2), pt(a.X+9, a.Y+7)} {
+				for rule := 1; rule <= 2; rule++ {
+					if f, e := InBox(polygons, rule, a, b); e != api.OK || !reflect.DeepEqual(f, byBands(polygons, rule, a, b)) {
+						t.Fatal("InBox", polygons, rule, a, b)
+					}
+				}
+			}
+		}
+	}
+	if f, e := InBox(fan, api.NonZero, pt(5, 5), pt(6, 6)); e != api.OK || !reflect.DeepEqual(f, byBands(fan, api.NonZero, pt(5, 5), pt(6, 6))) {
+		t.Error("a unit in which many edges meet", f, e)
+	}
+}
