@@ -103,7 +103,7 @@ func (p *parser) word(words []string) int {
 }
 
 func (p *parser) boolean() bool {
-	return p.word(boolWords[:]) == 1
+	return p.word(boolWords()) == 1
 }
 
 func (p *parser) mode() int {
@@ -170,14 +170,14 @@ func (p *parser) point() api.Point {
 
 // paint reads a paint, which takes all fields that are left.
 func (p *parser) paint() api.Paint {
-	out := api.Paint{Kind: firstPaint + p.word(paintWords[:])}
+	out := api.Paint{Kind: firstPaint + p.word(paintWords())}
 	switch out.Kind {
 	case api.SolidPaint:
 		out.Color = p.color()
 		return out
 	case api.PatternPaint:
-		out.Spread = firstSpread + p.word(spreadWords[:])
-		out.Sampling = firstSampling + p.word(samplingWords[:])
+		out.Spread = firstSpread + p.word(spreadWords())
+		out.Sampling = firstSampling + p.word(samplingWords())
 		out.Transform = p.transform()
 		out.Image = p.image()
 		return out
@@ -186,7 +186,7 @@ func (p *parser) paint() api.Paint {
 	case api.RadialGradient:
 		out.P0, out.Radius = p.point(), p.integer()
 	}
-	out.Spread = firstSpread + p.word(spreadWords[:])
+	out.Spread = firstSpread + p.word(spreadWords())
 	out.Transform = p.transform()
 	for len(p.fields) > 0 {
 		offset := p.integer()
@@ -198,8 +198,8 @@ func (p *parser) paint() api.Paint {
 // style reads a stroke style, up to its dash array.
 func (p *parser) style() api.StrokeStyle {
 	style := api.StrokeStyle{Width: p.integer()}
-	style.Join = firstJoin + p.word(joinWords[:])
-	style.Cap = firstCap + p.word(capWords[:])
+	style.Join = firstJoin + p.word(joinWords())
+	style.Cap = firstCap + p.word(capWords())
 	style.MiterLimit, style.DashPhase = p.integer(), p.integer()
 	count, e := numtext.ParseInt(p.next())
 	if e != api.OK || count < 0 || count > len(p.fields) {
@@ -230,11 +230,11 @@ func (p *parser) head() api.Node {
 		n.Isolated, n.Knockout = p.boolean(), p.boolean()
 	case "shape":
 		n.Kind = api.ShapeNode
-		n.FillRule = firstRule + p.word(ruleWords[:])
+		n.FillRule = firstRule + p.word(ruleWords())
 		n.Path = p.path()
 	case "image":
 		n.Kind = api.ImageNode
-		n.Sampling = firstSampling + p.word(samplingWords[:])
+		n.Sampling = firstSampling + p.word(samplingWords())
 		n.Image = p.image()
 	}
 	p.end()
@@ -250,7 +250,7 @@ func (p *parser) node() api.Node {
 	n.Transform = p.transform()
 	p.end()
 	if p.starts("clip") {
-		n.ClipRule = firstRule + p.word(ruleWords[:])
+		n.ClipRule = firstRule + p.word(ruleWords())
 		n.Clip = p.path()
 		p.end()
 	}
