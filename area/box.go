@@ -69,60 +69,11 @@ func (k box) reduce(ring []api.Point) []api.Point {
 	return kept
 }
 
-// manyVertices is the number of vertices from which on a box is split: the time for a box grows much faster than their number.
-const manyVertices = 16
-
-// split cuts the box in two, if it meets many edges and there is less to do for the parts.
-func (k box) split(local [][]api.Point, rule int) (one, two box, ok bool) {
-	vertices := countVertices(local)
-	if vertices < manyVertices {
-		return box{}, box{}, false
-	}
-	for _, parts := range [2][2]box{k.columns(), k.rows()} {
-		if parts[0].isEmpty() {
-			continue // the box is one unit long
-		}
-		if parts[0].effort(local, rule)+parts[1].effort(local, rule) < vertices+vertices/2 {
-			return parts[0], parts[1], true
-		}
-	}
-	return box{}, box{}, false
-}
-
-// effort returns the number of vertices that matter for the area in the box.
-func (k box) effort(l [][]api.Point, rule int) int {
-	local := k.localRings(l)
-	if uniform, _ := k.isUniform(local, rule); uniform {
-		return 0
-	}
-	return countVertices(local)
-}
-
-// columns returns the left and the right half of the box.
-func (k box) columns() [2]box {
-	x := k.a.X + (k.b.X-k.a.X)/2
-	return [2]box{{k.a, api.Point{X: x, Y: k.b.Y}}, {api.Point{X: x, Y: k.a.Y}, k.b}}
-}
-
-// rows returns the upper and the lower half of the box.
-func (k box) rows() [2]box {
-	y := k.a.Y + (k.b.Y-k.a.Y)/2
-	return [2]box{{k.a, api.Point{X: k.b.X, Y: y}}, {api.Point{X: k.a.X, Y: y}, k.b}}
-}
-
-func countVertices(l [][]api.Point) int {
-	n := 0
-	for _, ring := range l {
-		n += len(ring)
-	}
-	return n
-}
-
 // isTouched reports whether an edge of the ring has a point inside the box.
 func (k box) isTouched(ring []api.Point) bool {
 	p := ring[len(ring)-1]
 	for _, q := range ring {
-		if k.sides(p)&k.sides(q) == 0 && k.isSplit(p, q) {
+		if k.isCut(p, q) {
 			return true
 		}
 		p = q
@@ -130,15 +81,27 @@ func (k box) isTouched(ring []api.Point) bool {
 	return false
 }
 
-// isSplit reports whether the line through p and q has corners of the box on both of its sides.
-func (k box) isSplit(p, q api.Point) bool {
+// isCut reports whether the edge from p to q has a point inside the box: neither a side of the box nor the line through the edge separates them.
+func (k box) isCut(p, q api.Point) bool {
+	if k.sides(p)&k.sides(q) != 0 {
+		return false
+	}
 	left, right := false, false
-	for _, c := range [4]api.Point{k.a, k.b, {X: k.a.X, Y: k.b.Y}, {X: k.b.X, Y: k.a.Y}} {
-		side := (q.X-p.X)*(c.Y-p.Y) - (q.Y-p.Y)*(c.X-p.X)
+	for _, c := range k.corners() {
+		side := sideOf(p, q, c)
 		left = left || side < 0
 		right = right || side > 0
 	}
 	return left && right
+}
+
+func (k box) corners() [4]api.Point {
+	return [4]api.Point{k.a, k.b, {X: k.a.X, Y: k.b.Y}, {X: k.b.X, Y: k.a.Y}}
+}
+
+// sideOf tells by its sign on which side of the line from p to q a point lies.
+func sideOf(p, q, c api.Point) int {
+	return (q.X-p.X)*(c.Y-p.Y) - (q.Y-p.Y)*(c.X-p.X)
 }
 
 // winding returns the winding number of a ring that does not touch the box: that of the corner a holds for all points inside.
