@@ -160,6 +160,14 @@ func TestP33_3Crop(t *testing.T) {
 	if e != api.OK || !Equal(c, img(2, 2, m.Pixels[1], m.Pixels[2], m.Pixels[4], m.Pixels[5])) || cap(c.Pixels) != 4 {
 		t.Error("Crop", c, e)
 	}
+	for i, p := range m.Pixels {
+		if one, e := Crop(m, i%3, i/3, 1, 1); e != api.OK || !Equal(one, img(1, 1, p)) {
+			t.Error("Crop to one pixel", i, one, e)
+		}
+	}
+	if all, e := Crop(m, 0, 0, 3, 2); e != api.OK || !Equal(all, m) {
+		t.Error("Crop to the whole image", all, e)
+	}
 	c.Pixels[0].R = 77
 	if m.Pixels[1].R != 0 {
 		t.Error("Crop shares memory with its argument")

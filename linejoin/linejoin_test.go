@@ -45,6 +45,9 @@ func TestP23_1OuterNormals(t *testing.T) {
 	r := rand.New(rand.NewSource(1))
 	for range 3000 {
 		a, v, b, width := somePoint(r), somePoint(r), somePoint(r), 1+r.Intn(16384)
+		if r.Intn(2) == 0 { // near each other, such that the cross product is small
+			a, v, b = pt(a.X%3, a.Y%3), pt(v.X%3, v.Y%3), pt(b.X%3, b.Y%3)
+		}
 		u, w := pt(v.X-a.X, v.Y-a.Y), pt(b.X-v.X, b.Y-v.Y)
 		cross := u.X*w.Y - u.Y*w.X
 		n, m, ok := OuterNormals(a, v, b, width)
@@ -149,7 +152,7 @@ func TestP23_3P23_4Join(t *testing.T) {
 	bad := style
 	bad.Cap = 0
 	for name, l := range map[string][][]api.Point{
-		"straight": Join(a, v, pt(900, 0), style), "back": Join(a, v, a, style), "v is a": Join(v, v, b, style), "v is b": Join(a, v, v, with(api.Round, 1024)), "far a": Join(far, v, b, style), "far v": Join(a, far, b, style), "far b": Join(a, v, far, with(api.Round, 1024)),
+		"straight": Join(a, v, pt(900, 0), style), "back": Join(a, v, a, style), "v is a": Join(v, v, b, style), "v is b": Join(a, v, v, with(api.Round, 1024)), "far a": Join(far, v, b, style), "far a, round": Join(far, v, b, with(api.Round, 1024)), "far v": Join(a, far, b, style), "far b": Join(a, v, far, with(api.Round, 1024)),
 		"style": Join(a, v, b, bad), "a disc beyond the range": Join(a, pt(most, 0), b, with(api.Round, 1024)), "a tip beyond the range": Join(pt(0, most), pt(most, most), pt(most, 0), style),
 	} {
 		if len(l) != 0 {

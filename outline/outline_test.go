@@ -248,6 +248,16 @@ func TestP26_5P26_6Offset(t *testing.T) {
 	if l, e := Offset(full[:48], 8192); e != api.OK || len(l) == 0 {
 		t.Error("the greatest distance", e)
 	}
+	exact := full[:4:4] // 4 times 84 vertices, and 16 for each point
+	for range 235 {
+		exact = append(exact, []api.Point{pt(9, 9)})
+	}
+	if l, e := Offset(exact, 5); e != api.OK || len(l) != 4*9+235 {
+		t.Error("4096 vertices", len(l), e)
+	}
+	if l, e := Offset(append(exact, exact[4]), 5); e != api.ErrLimit || len(l) != 0 {
+		t.Error("4112 vertices", e)
+	}
 	if l, e := Offset(nil, 1); e != api.OK || len(l) != 0 {
 		t.Error("no polygons", e)
 	}

@@ -265,6 +265,10 @@ func TestP13_7RoundRect(t *testing.T) {
 			t.Error("no radius", radius, m)
 		}
 	}
+	wide, low := RoundRect(api.Rect{X1: 9, Y1: 2}, 1000), RoundRect(api.Rect{X1: 9, Y1: 2}, 256)
+	if !Equal(wide, low) || wide[0] != move(256, 0) {
+		t.Error("the radius is at most half of the smaller side", wide)
+	}
 	all := api.Rect{X0: -4096, Y0: -4096, X1: 4096, Y1: 4096}
 	for _, radius := range []int{5, 100, math.MaxInt} {
 		for _, r := range []api.Rect{r, all} {

@@ -159,6 +159,9 @@ func TestP24_1P24_2Errors(t *testing.T) {
 	if l, e := Polyline(straight, good); e != api.OK || len(l) != 1024 {
 		t.Error("4096 vertices", len(l), e)
 	}
+	if l, e := Polylines([]api.Polyline{straight}, good); e != api.OK || len(l) != 1024 {
+		t.Error("4096 vertices of one polyline", len(l), e)
+	}
 	if l, e := Polylines([]api.Polyline{straight, line(false, 0, 0, 5, 5)}, good); e != api.ErrLimit || len(l) != 0 {
 		t.Error("4100 vertices", e)
 	}
