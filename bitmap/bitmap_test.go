@@ -200,6 +200,11 @@ func TestP30_4P30_5Effects(t *testing.T) {
 			t.Error("Shadow", n, e)
 		}
 	}
+	row, _ := New(r4(-4096, 0, 4096, 1), px(0, 0, 0, 255))
+	for _, by := range []int{8000, -8000, 8191, 8192} {
+		s, e := Shadow(row, api.Point{X: by}, 0, api.Color{A: 255})
+		check4(t, "a wide shadow", s, e, row.Bounds, func(x, y int) api.Pixel { return look(row, x-by, y) })
+	}
 	r := rand.New(rand.NewSource(3))
 	for range 500 {
 		a, n := random(r), r.Intn(4)

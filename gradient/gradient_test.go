@@ -146,7 +146,7 @@ func TestP31_4P31_6ReverseAndInsert(t *testing.T) {
 		l []api.ColorStop
 		s api.ColorStop
 		e api.Errno
-	}{"full": {full, s, api.ErrLimit}, "too long": {make([]api.ColorStop, 17), s, api.ErrArgument}, "offset -1": {full, api.ColorStop{Offset: -1}, api.ErrArgument}, "offset beyond": {nil, api.ColorStop{Offset: end + 1}, api.ErrArgument}, "unsorted": {stops(5, 4), s, api.ErrArgument}} {
+	}{"full": {full, s, api.ErrLimit}, "too long": {make([]api.ColorStop, 17), s, api.ErrArgument}, "offset -1": {full, api.ColorStop{Offset: -1}, api.ErrArgument}, "offset beyond": {nil, api.ColorStop{Offset: end + 1}, api.ErrArgument}, "unsorted": {stops(5, 4), s, api.ErrArgument}, "one invalid stop": {stops(-1), s, api.ErrArgument}} {
 		if l, e := InsertStop(c.l, c.s); e != c.e || len(l) != 0 {
 			t.Error(name, l, e)
 		}
