@@ -57,7 +57,7 @@ func TestP37_1CheckEqualClone(t *testing.T) {
 		e api.Errno
 		i int
 	}{
-		"sample": {sample(), api.OK, 0}, "empty": {page(), api.OK, 0}, "full": {full, api.OK, 0}, "deep": {deep, api.OK, 0}, "largest": {size(256, 256), api.OK, 0}, "width 0": {size(0, 5, bad), api.ErrRange, 0}, "width 257": {size(257, 5), api.ErrRange, 0}, "height 0": {size(5, 0), api.ErrRange, 0}, "height 257": {size(5, math.MaxInt), api.ErrRange, 0},
+		"sample": {sample(), api.OK, 0}, "empty": {page(), api.OK, 0}, "full": {full, api.OK, 0}, "deep": {deep, api.OK, 0}, "largest": {size(256, 256), api.OK, 0}, "smallest": {size(1, 1), api.OK, 0}, "width 0": {size(0, 5, bad), api.ErrRange, 0}, "width 257": {size(257, 5), api.ErrRange, 0}, "height 0": {size(5, 0), api.ErrRange, 0}, "height 257": {size(5, math.MaxInt), api.ErrRange, 0},
 		"65 nodes": {page(append(slices.Clone(full.Nodes), bad)...), api.ErrLimit, 64}, "an invalid node": {page(at(9, h, 0), bad, at(9, h, 0)), api.ErrArgument, 1}, "duplicate": {page(at(9, g, 0), at(9, h, 1)), api.ErrDuplicate, 1}, "duplicate before depth": {page(at(9, h, 0), at(9, h, 5)), api.ErrDuplicate, 1}, "node error before duplicate": {page(at(1, h, 0), bad), api.ErrArgument, 1},
 		"first depth": {page(at(1, g, 1)), api.ErrNode, 0}, "below a shape": {page(at(1, h, 0), at(2, h, 1)), api.ErrNode, 1}, "below an image": {page(at(1, p, 0), at(2, h, 1)), api.ErrNode, 1}, "too deep": {page(at(1, g, 0), at(2, h, 2)), api.ErrNode, 1}, "depth 8": {page(append(slices.Clone(deep.Nodes), at(9, h, 8))...), api.ErrRange, 8},
 	} {
@@ -134,6 +134,8 @@ func ids(s api.Scene) []int {
 }
 
 func TestP37_3Apply(t *testing.T) {
+	first := at(1, g, 0)
+	first.Knockout = true
 	replaced := at(3, g, 1)
 	replaced.Opacity = 9
 	insert := func(i int, n api.Node) api.Edit { return api.Edit{Kind: api.InsertNode, Index: i, Node: n} }
@@ -151,7 +153,7 @@ func TestP37_3Apply(t *testing.T) {
 		"insert beyond": {insert(9, at(9, g, 0)), nil, api.ErrRange}, "insert before": {insert(-1, bad), nil, api.ErrRange}, "insert a duplicate": {insert(0, at(8, h, 0)), nil, api.ErrDuplicate}, "insert too deep": {insert(0, at(9, h, 1)), nil, api.ErrNode}, "insert an invalid node": {insert(0, bad), nil, api.ErrArgument}, "insert makes others invalid": {insert(1, at(9, h, 0)), nil, api.ErrNode},
 		"remove": {remove(1), []int{50, 60, 71, 80}, api.OK}, "remove a leaf": {remove(8), []int{10, 21, 31, 42, 50, 60, 71}, api.OK}, "remove nothing": {remove(9), nil, api.ErrNotFound}, "remove 0": {remove(0), nil, api.ErrNotFound},
 		"move": {move(3, 3, 1), []int{10, 21, 50, 60, 71, 80}, api.ErrNode}, "move into a group": {move(3, 4, 1), []int{10, 21, 50, 60, 31, 42, 71, 80}, api.OK}, "move to the top": {move(3, 6, 0), []int{10, 21, 50, 60, 71, 80, 30, 42 - 1}, api.OK}, "move beyond": {move(3, 7, 0), nil, api.ErrRange}, "move before": {move(3, -1, 0), nil, api.ErrRange}, "move nothing": {move(9, 99, 0), nil, api.ErrNotFound}, "move too deep": {move(3, 0, 5), nil, api.ErrNode}, "move far down": {move(3, 0, math.MaxInt), nil, api.ErrRange}, "move far up": {move(3, 0, math.MinInt), nil, api.ErrRange},
-		"replace": {replace(replaced), ids(sample()), api.OK}, "replace nothing": {replace(at(9, h, 0)), nil, api.ErrNotFound}, "replace at another depth": {replace(at(3, g, 0)), nil, api.ErrArgument}, "replace a group by a shape": {replace(at(3, h, 1)), nil, api.ErrNode}, "replace a shape by a group": {replace(at(8, g, 0)), ids(sample()), api.OK},
+		"replace": {replace(replaced), ids(sample()), api.OK}, "replace the first node": {replace(first), ids(sample()), api.OK}, "replace nothing": {replace(at(9, h, 0)), nil, api.ErrNotFound}, "replace at another depth": {replace(at(3, g, 0)), nil, api.ErrArgument}, "replace a group by a shape": {replace(at(3, h, 1)), nil, api.ErrNode}, "replace a shape by a group": {replace(at(8, g, 0)), ids(sample()), api.OK},
 		"background": {api.Edit{Kind: api.SetBackground, Color: api.Color{B: 3}}, ids(sample()), api.OK}, "kind 0": {api.Edit{}, nil, api.ErrArgument}, "kind 6": {api.Edit{Kind: 6}, nil, api.ErrArgument},
 	} {
 		s := sample()

@@ -213,6 +213,26 @@ func TestP46_1P46_3Encoding(t *testing.T) {
 	}
 }
 
+// TestLargeImages: images at the limits of their size.
+func TestLargeImages(t *testing.T) {
+	s := api.Scene{Width: 4, Height: 4, Nodes: []api.Node{node.Default(1, api.ImageNode)}}
+	for _, size := range [][2]int{{4096, 1}, {1, 4096}, {4096, 16}, {16, 4096}, {256, 256}} {
+		plain := scene.Clone(s)
+		s.Nodes[0].Image = api.Image{Width: size[0], Height: size[1], Pixels: make([]api.Pixel, size[0]*size[1])}
+		b, e := EncodeScene(s)
+		if e != api.OK {
+			t.Fatal("EncodeScene", size, e)
+		}
+		if got, e := DecodeScene(b); e != api.OK || !scene.Equal(got, s) {
+			t.Error("DecodeScene", size, e)
+		}
+		d, _ := EncodeDelta(plain, s)
+		if got, e := DecodeDelta(plain, d); e != api.OK || !scene.Equal(got, s) || len(d) > 100 {
+			t.Error("DecodeDelta", size, e, len(d))
+		}
+	}
+}
+
 func sameEdit(a, b api.Edit) bool {
 	return a.Kind == b.Kind && a.ID == b.ID && a.Index == b.Index && a.Depth == b.Depth && a.Color == b.Color && node.Equal(a.Node, b.Node)
 }

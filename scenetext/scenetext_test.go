@@ -159,6 +159,26 @@ func TestP45_2Parse(t *testing.T) {
 	}
 }
 
+// TestLongImages: images with the greatest width and height.
+func TestLongImages(t *testing.T) {
+	s := api.Scene{Width: 4, Height: 4, Nodes: []api.Node{node.Default(1, api.ImageNode)}}
+	for _, size := range [][2]int{{4096, 1}, {1, 4096}} {
+		s.Nodes[0].Image = api.Image{Width: size[0], Height: size[1], Pixels: make([]api.Pixel, 4096)}
+		formatted, e := Format(s)
+		if e != api.OK {
+			t.Fatal("Format", size, e)
+		}
+		if parsed, i, e := Parse(formatted); i != 0 || e != api.OK || !scene.Equal(parsed, s) {
+			t.Error("Parse", size, i, e)
+		}
+		lines := strings.SplitAfter(formatted, "\n")
+		lines[1] = strings.Replace(lines[1], "4096", "4095", 1)
+		if _, i, e := Parse(strings.Join(lines, "")); i != 1 || e != api.ErrSyntax {
+			t.Error("a pixel too much", size, i, e)
+		}
+	}
+}
+
 func TestP45_3Paints(t *testing.T) {
 	for _, n := range fullScene().Nodes {
 		for _, p := range append(n.Fill, n.Stroke...) {

@@ -158,6 +158,29 @@ func TestP47_5P47_7ZOrder(t *testing.T) {
 	}
 }
 
+func TestP47_5MortonCodes(t *testing.T) {
+	for columns := 1; columns <= 40; columns++ {
+		for rows := 1; columns*rows <= 256 && rows <= 40; rows++ {
+			code := func(i int) int {
+				c, r, sum := i%columns, i/columns, 0
+				for k := range 8 {
+					sum += (c>>k%2)<<(2*k) + (r>>k%2)<<(2*k+1)
+				}
+				return sum
+			}
+			l := ZOrder(r4(3, -9, 3+2*columns, -9+3*rows), 2, 3)
+			for i := 1; i < len(l); i++ {
+				if code(l[i-1]) >= code(l[i]) {
+					t.Fatal("ZOrder", columns, rows, l)
+				}
+			}
+			if len(l) != columns*rows {
+				t.Fatal("ZOrder", columns, rows, l)
+			}
+		}
+	}
+}
+
 // slowHilbert is the chapter's definition, cell by cell.
 func slowHilbert(order int) [][2]int {
 	if order == 0 {

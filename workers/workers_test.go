@@ -185,6 +185,11 @@ func TestP48_5P48_6Schedules(t *testing.T) {
 			t.Error("Script:", name, e)
 		}
 	}
+	if l, e := Assign(many[:256], 3); e != api.OK || len(l) != 256 {
+		t.Error("Assign of 256 tiles", e)
+	} else if _, e := Makespan(many[:256], l, 3); e != api.OK {
+		t.Error("Makespan of 256 tiles", e)
+	}
 	if l, e := Script(many[:256], 1); e != api.OK || len(l) != 768 {
 		t.Error("Script of 256 tiles", e)
 	}
