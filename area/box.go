@@ -1,6 +1,8 @@
 package area
 
 import (
+	"slices"
+
 	"grisaille/api"
 	"grisaille/polygon"
 	"grisaille/rational"
@@ -111,19 +113,24 @@ func (k box) winding(ring []api.Point) int {
 
 // isUniform reports whether it is plain that the rule counts all of the box as inside, or none of it; and if so, which.
 func (k box) isUniform(local [][]api.Point, rule int) (uniform, full bool) {
-	base, uniform, positive := 0, true, true
+	base := 0
+	var touched [][]api.Point
 	for _, ring := range local {
-		if !k.isTouched(ring) {
+		if k.isTouched(ring) {
+			touched = append(touched, ring)
+		} else {
 			base += k.winding(ring)
-			continue
 		}
-		uniform = false
-		positive = positive && polygon.IsConvex(ring) && polygon.DoubleArea(ring) > 0
 	}
-	if uniform {
+	if len(touched) == 0 {
 		return true, polygon.Fills(base, rule)
 	}
 	// Rings that wind around points once or not at all cannot undo a positive winding number.
-	covered := rule == api.NonZero && base > 0 && positive
+	covered := rule == api.NonZero && base > 0 && !slices.ContainsFunc(touched, isWild)
 	return covered, covered
+}
+
+// isWild reports whether a ring may have other winding numbers than 0 and 1.
+func isWild(ring []api.Point) bool {
+	return !polygon.IsConvex(ring) || polygon.DoubleArea(ring) <= 0
 }
