@@ -161,7 +161,7 @@ func TestP17_4EventYs(t *testing.T) {
 	if !reflect.DeepEqual(got, want) {
 		t.Error("EventYs", got)
 	}
-	if got := EventYs([][]api.Point{ring(5, 3, 5, 3), ring(8, 9)}, pt(0, 0), pt(1, 5)); !reflect.DeepEqual(got, []api.Rat{rat(0, 1), rat(3, 1), rat(5, 1)}) {
+	if got := EventYs([][]api.Point{nil, ring(5, 3, 5, 3), {}, ring(8, 9)}, pt(0, 0), pt(1, 5)); !reflect.DeepEqual(got, []api.Rat{rat(0, 1), rat(3, 1), rat(5, 1)}) {
 		t.Error("a vertex without an edge", got)
 	}
 	if got := EventYs([][]api.Point{ring(0, 0, 8, 0, 8, 8, 0, 8)}, pt(9, 0), pt(9, 8)); !reflect.DeepEqual(got, []api.Rat{rat(0, 1), rat(8, 1)}) {
