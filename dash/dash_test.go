@@ -243,6 +243,9 @@ func TestP25_3Apply(t *testing.T) {
 			t.Error(name, e, len(l))
 		}
 	}
+	if l, e := Apply(api.Polyline{Points: long.Points[:4096]}, style(0)); e != api.OK || len(l) != 1 || len(l[0].Points) != 1 {
+		t.Error("4096 points", len(l), e)
+	}
 	if l, e := Apply(line(false, 0, 0, 4096, 0), style(0, 1, 1)); e != api.OK || len(l) != 2048 {
 		t.Error("4096 points of dashes", len(l), e)
 	}

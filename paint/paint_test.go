@@ -244,6 +244,17 @@ func TestP34_2P34_3At(t *testing.T) {
 			t.Error("a brush that NewBrush did not create")
 		}
 	}
+	edge := patternPaint() // the centers of the pixels -1 and 0 lie exactly 2^30 pixels of the image away
+	edge.Transform = affine.Scale(rat(1, 1<<31), rat(1, 1))
+	for sampling := 1; sampling <= 2; sampling++ {
+		edge.Sampling = sampling
+		b, _ := NewBrush(edge, affine.Identity())
+		for x := -2; x <= 1; x++ {
+			if got := b.At(x, 0); got != slowAt(edge, affine.Identity(), x, 0) || (got == api.Pixel{}) != (x == -2 || x == 1) {
+				t.Error("the farthest position", sampling, x, got)
+			}
+		}
+	}
 	far := patternPaint()
 	far.Transform = affine.Scale(rat(1, 1<<40), rat(1, 1))
 	if b, _ := NewBrush(far, affine.Identity()); b.At(5, 0) != (api.Pixel{}) || b.At(5, 0) != slowAt(far, affine.Identity(), 5, 0) {

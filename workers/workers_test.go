@@ -185,6 +185,9 @@ func TestP48_5P48_6Schedules(t *testing.T) {
 			t.Error("Script:", name, e)
 		}
 	}
+	if l, e := Assign([]int{0, 1 << 30}, 1); e != api.OK || !slices.Equal(l, []int{0, 0}) {
+		t.Error("the greatest cost", l, e)
+	}
 	if l, e := Assign(many[:256], 3); e != api.OK || len(l) != 256 {
 		t.Error("Assign of 256 tiles", e)
 	} else if _, e := Makespan(many[:256], l, 3); e != api.OK {
